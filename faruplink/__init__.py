@@ -1,0 +1,1 @@
+"""Faruplink: commands to a far craft."""
