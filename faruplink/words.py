@@ -1,6 +1,6 @@
 """What the modules share: the words of the document, and the looking over of what is handed in."""
 
-from faruplink.errors import BadBook, BadLetters
+from faruplink.errors import BadBook, BadDelay, BadLetters, BadWindows
 
 NONE = "none"
 HELD = "held"
@@ -15,6 +15,7 @@ CALL_BACK = "back"
 
 LAST_BEAT = 200
 MOST_COMMANDS = 8
+MOST_DELAY = 9
 
 
 def is_number(value):
@@ -59,6 +60,36 @@ def look_over_book(book):
             raise BadBook(number)
 
 
+def look_over_delay(delay):
+    """Refuse what is no delay."""
+    if not is_within(delay, 1, MOST_DELAY):
+        raise BadDelay(f"a delay is 1 to {MOST_DELAY} beats")
+
+
+def is_window(window, least):
+    """Whether this is a window that begins at the least beat or later."""
+    if not isinstance(window, tuple) or len(window) != 2:
+        return False
+    begin, end = window
+    return is_within(begin, least, LAST_BEAT) and is_within(end, begin + 1, LAST_BEAT)
+
+
+def look_over_windows(windows):
+    """Refuse what are no windows."""
+    if not isinstance(windows, tuple):
+        raise BadWindows("windows are a tuple")
+    least = 0
+    for number, window in enumerate(windows):
+        if not is_window(window, least):
+            raise BadWindows(f"window {number} can't be")
+        least = window[1]
+
+
+def is_open(windows, beat):
+    """Whether one of the windows is open at this beat."""
+    return any(begin <= beat < end for begin, end in windows)
+
+
 def is_letter(letter, many):
     """Whether this is a letter to a craft with so many commands."""
     if not isinstance(letter, tuple) or len(letter) != 2:
@@ -77,3 +108,8 @@ def look_over_letters(letters, many):
 def first_state(many):
     """The state of a craft that has heard nothing."""
     return (NONE,) * many
+
+
+def is_report(report, many):
+    """Whether this has the form of a report of so many commands."""
+    return isinstance(report, tuple) and len(report) == many and all(word in WORDS for word in report)

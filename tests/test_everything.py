@@ -6,7 +6,10 @@ import pathlib
 import unittest
 
 from faruplink.craft import Craft
-from faruplink.errors import BadBook, BadLetters, Over
+from faruplink.doubt import Ground
+from faruplink.errors import BadBook, BadDelay, BadLetters, BadReport, BadWindows, LinkError, Over
+from faruplink.judging import judged
+from faruplink.line import Line
 
 PACKAGE = pathlib.Path(__file__).resolve().parent.parent / "faruplink"
 BOOK = ((1, 3, ()), (0, 5, (0,)), (4, 4, ()))
@@ -19,6 +22,8 @@ TOLD = [
     ("done", "done", "back"),
     ("done", "done", "back"),
 ]
+# What a ground hears of the same letters, a beat later.
+TOLD_LATER = {2: ("done", "done", "held"), 4: ("done", "done", "back")}
 # The language's L8, and `super`, which its L5 allows.
 BUILTINS = """len range enumerate zip min max sum abs sorted reversed int str bool bytes list tuple dict set frozenset
 isinstance ord repr any all divmod super Exception ValueError TypeError KeyError IndexError LookupError
@@ -100,6 +105,197 @@ class Refused(unittest.TestCase):
         for again in range(2):
             self.assertRaises(BadBook, Craft, ((3, 2, ()),))
             self.assertEqual(Craft(((3, 3, ()),)).beat([]), ("none",))
+
+
+def all_of_ground(ground):
+    return (ground.now(), ground.doubt(), ground.ends())
+
+
+def all_of_line(line):
+    return (line.has(), line.doubt(), line.ends(), line.now(), line.waits(), line.log())
+
+
+def spoil(told):
+    """Change all of a list that was told."""
+    for item in told:
+        if isinstance(item, list):
+            spoil(item)
+    told[:] = ["spoilt", *told, ["spoilt"]]
+
+
+class Grounds(unittest.TestCase):
+    def steps(self):
+        """A ground again at each step of the same run."""
+        ground = Ground(BOOK, 1)
+        yield ground
+        for letters in HEARD:
+            ground.send(list(letters))
+            yield ground
+            ground.beat()
+            yield ground
+            if ground.now() in (2, 4):
+                ground.hear(ground.now(), TOLD_LATER[ground.now()])
+                yield ground
+
+    def test_letters_that_are_handed_in_are_neither_changed_nor_kept(self):
+        ground = Ground(BOOK, 1)
+        for letters in HEARD:
+            handed = list(letters)
+            ground.send(handed)
+            self.assertEqual(handed, letters)
+            spoil(handed)
+            ground.beat()
+        plain = Ground(BOOK, 1)
+        for letters in HEARD:
+            plain.send(letters)
+            plain.beat()
+        self.assertEqual(all_of_ground(ground), all_of_ground(plain))
+
+    def test_a_refused_list_stays_as_it_was(self):
+        handed = [("cmd", 0), ("cmd", 3)]
+        self.assertRaises(BadLetters, Ground(BOOK, 1).send, handed)
+        self.assertEqual(handed, [("cmd", 0), ("cmd", 3)])
+
+    def test_the_same_is_told_when_asked_again_though_what_was_told_is_changed(self):
+        for ground in self.steps():
+            before = all_of_ground(ground)
+            for again in range(2):
+                spoil(ground.doubt())
+                spoil(ground.ends())
+                self.assertEqual(all_of_ground(ground), before)
+
+    def test_what_was_told_is_changed_and_nothing_of_what_is_told_later(self):
+        plain = [all_of_ground(ground) for ground in self.steps()]
+        spoilt = []
+        for ground in self.steps():
+            spoilt.append(all_of_ground(ground))
+            spoil(ground.doubt())
+            spoil(ground.ends())
+        self.assertEqual(spoilt, plain)
+
+    def test_what_was_told_stays_as_it_was_while_beats_go_by(self):
+        ground = Ground(BOOK, 1)
+        told, ends = ground.doubt(), ground.ends()
+        ground.send([("cmd", 0), ("cmd", 1), ("back", 2)])
+        for beat in range(6):
+            ground.beat()
+        self.assertEqual((told, ends), ([["none"]] * 3, [None] * 3))
+
+    def test_what_is_refused_changes_nothing(self):
+        plain = [all_of_ground(ground) for ground in self.steps()]
+        tried = []
+        for ground in self.steps():
+            self.assertRaises(BadLetters, ground.send, [("cmd", 0), ("cmd", 1), ("back", 2), ("cmd", 3)])
+            self.assertRaises(BadReport, ground.hear, ground.now() + 1, ("none", "none", "none"))
+            self.assertRaises(BadReport, ground.hear, -1, ("none", "none", "none"))
+            self.assertRaises(BadReport, ground.hear, ground.now(), ("late", "late", "late"))
+            self.assertRaises(BadReport, ground.hear, ground.now(), ("none", "none"))
+            tried.append(all_of_ground(ground))
+        self.assertEqual(tried, plain)
+
+    def test_grounds_of_one_book_know_nothing_of_each_other(self):
+        one, other = Ground(BOOK, 1), Ground(BOOK, 1)
+        one.send([("cmd", 0)])
+        one.beat()
+        other.beat()
+        self.assertEqual((one.doubt()[0], other.doubt()[0]), (["none", "done"], ["none"]))
+        self.assertRaises(BadReport, other.hear, 1, ("done", "none", "none"))
+        one.hear(1, ("done", "none", "none"))
+        self.assertEqual(other.doubt()[0], ["none"])
+
+    def test_a_refused_one_does_not_spoil_the_next_one(self):
+        for again in range(2):
+            self.assertRaises(BadDelay, Ground, BOOK, 0)
+            self.assertEqual(all_of_ground(Ground(BOOK, 1)), (0, [["none"]] * 3, [None] * 3))
+
+
+class Lines(unittest.TestCase):
+    def steps(self):
+        """A line again at each step of the same run, and what its beats told."""
+        line = Line(BOOK, 1, ((0, 2), (3, 5)))
+        told = []
+        yield line, told
+        for step, number in (
+            (line.send, 0), (line.send, 1), (line.call, 2), (line.lose, 2), (line.beat, 0),
+            (line.send, 2), (line.beat, 1), (line.beat, 0), (line.send, 2), (line.beat, 0),
+            (line.beat, 0), (line.beat, 0), (line.beat, 0),
+        ):
+            told.append(step(number))
+            yield line, told
+
+    def all_told(self, line, told):
+        return (all_of_line(line), [list(beats) for beats in told if beats is not None])
+
+    def plain(self):
+        return [self.all_told(line, told) for line, told in self.steps()]
+
+    def test_the_run_hears_and_doubts_and_ends(self):
+        told, beats = self.plain()[-1]
+        self.assertEqual(beats, [[], [1], [], [3], [4], [5], [6]])
+        self.assertEqual((told[0], told[2]), (("done", "done", "done"), ["done", "done", "done"]))
+
+    def test_the_same_is_told_when_asked_again_though_what_was_told_is_changed(self):
+        plain = self.plain()
+        spoilt = []
+        for line, told in self.steps():
+            for again in range(2):
+                spoil(line.doubt())
+                spoil(line.ends())
+                spoil(line.log())
+            spoilt.append(self.all_told(line, told))
+        self.assertEqual(spoilt, plain)
+
+    def test_the_beats_that_beat_tells_may_be_changed(self):
+        plain = [all_of_line(line) for line, told in self.steps()]
+        spoilt = []
+        for line, told in self.steps():
+            if told and told[-1] is not None:
+                spoil(told[-1])
+            spoilt.append(all_of_line(line))
+        self.assertEqual(spoilt, plain)
+
+    def test_what_is_refused_changes_nothing(self):
+        plain = self.plain()
+        tried = []
+        for line, told in self.steps():
+            for step, number in ((line.send, 3), (line.call, -1), (line.lose, 9), (line.beat, 2), (line.beat, -1)):
+                self.assertRaises(LinkError, step, number)
+            if line.now() not in (0, 1, 3, 4):
+                self.assertRaises(LinkError, line.send, 0)
+                self.assertRaises(LinkError, line.call, 0)
+            tried.append(self.all_told(line, told))
+        self.assertEqual(tried, plain)
+
+    def test_lines_of_one_book_know_nothing_of_each_other(self):
+        one, other = (Line(BOOK, 1, ((0, 200),)) for again in range(2))
+        one.send(0)
+        for beat in range(3):
+            one.beat(0)
+            other.beat(0)
+        self.assertEqual((one.has()[0], other.has()[0]), ("done", "none"))
+        self.assertEqual((one.doubt()[0], other.doubt()[0]), (["done"], ["none"]))
+        self.assertNotEqual(one.log(), other.log())
+
+    def test_a_refused_one_does_not_spoil_the_next_one(self):
+        for again in range(2):
+            self.assertRaises(BadWindows, Line, BOOK, 1, ((0, 0),))
+            self.assertEqual(Line(BOOK, 1, ((0, 1),)).log(), [])
+
+
+class Judging(unittest.TestCase):
+    def test_the_log_of_a_line_is_not_changed_and_the_same_is_told_again(self):
+        for line, told in Lines().steps():
+            log = line.log()
+            for again in range(2):
+                self.assertIsNone(judged(BOOK, 1, ((0, 2), (3, 5)), log))
+                self.assertEqual(log, line.log())
+
+    def test_a_refused_log_stays_and_spoils_nothing(self):
+        log = [("send", 0), ("send", 3)]
+        for again in range(2):
+            self.assertRaises(BadLetters, judged, BOOK, 1, ((0, 1),), log)
+            self.assertEqual(log, [("send", 0), ("send", 3)])
+            self.assertIsNone(judged(BOOK, 1, ((0, 1),), log[:1]))
 
 
 class NoClockChanceOrFiles(unittest.TestCase):
