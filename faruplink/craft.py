@@ -34,6 +34,23 @@ def state_after(book, state, beat, letters):
     return tuple(words)
 
 
+def all_done_by(book, heard):
+    """The beat by which all commands are done that are first heard at these beats, by their numbers.
+
+    It is None if one of them is never done, or never heard; none is called back.
+    """
+    dones = []
+    for number, (when, until, wants) in enumerate(book):
+        if number not in heard:
+            return None
+        beat = max([when, heard[number]] + [dones[want] for want in wants])
+        # No until is greater than the last beat, so what is heard behind that is not done either.
+        if beat > until:
+            return None
+        dones.append(beat)
+    return max(dones)
+
+
 class Craft:
     """A craft with a book, ahead of beat 0."""
 

@@ -1,6 +1,6 @@
 """What the modules share: the words of the document, and the looking over of what is handed in."""
 
-from faruplink.errors import BadBook, BadDelay, BadLetters, BadWindows
+from faruplink.errors import BadBook, BadCount, BadDelay, BadLetters, BadWindows
 
 NONE = "none"
 HELD = "held"
@@ -16,6 +16,7 @@ CALL_BACK = "back"
 LAST_BEAT = 200
 MOST_COMMANDS = 8
 MOST_DELAY = 9
+MOST_LOST = 3
 
 
 def is_number(value):
@@ -103,6 +104,12 @@ def look_over_letters(letters, many):
     for at, letter in enumerate(letters):
         if not is_letter(letter, many):
             raise BadLetters(at)
+
+
+def look_over_lost(lost):
+    """Refuse what is no number of letters of which the loss is looked at."""
+    if not is_within(lost, 0, MOST_LOST):
+        raise BadCount(f"0 to {MOST_LOST} letters may be lost")
 
 
 def first_state(many):

@@ -1,4 +1,4 @@
-"""What can be told of a craft by trying every loss of letters, for the tests of the ground, the line and judging."""
+"""What can be told of a craft by trying every loss of letters, and every order of sends, for the tests."""
 
 import itertools
 
@@ -35,6 +35,66 @@ def ends_of(book, doubt, now):
         else:
             told.append(None)
     return told
+
+
+def all_done(book, delay, sends):
+    """The first beat behind which a craft that hears these sends, pairs of beat and number, has done all; else None."""
+    craft = Craft(book)
+    for now in range(201):
+        state = craft.beat([cmd(number) for beat, number in sends if beat + delay == now])
+        if state == ("done",) * len(book):
+            return now
+        # What is late stays so, and behind all untils nothing more is done.
+        if "late" in state or now > max(until for when, until, wants in book):
+            return None
+    return None
+
+
+def lists_of_lost(many, most):
+    """Each rising list of at most so many numbers of sends, the shortest first, then as lists ascend."""
+    for length in range(most + 1):
+        yield from (list(lost) for lost in itertools.combinations(range(many), length))
+
+
+def without(sends, lost):
+    """What is left of the sends by this loss."""
+    return [send for at, send in enumerate(sends) if at not in lost]
+
+
+def all_done_at_worst(book, delay, sends, most):
+    """The beat by which all are done whichever sends, at most so many, are lost; None if by some loss they aren't."""
+    worst = 0
+    for lost in lists_of_lost(len(sends), most):
+        beat = all_done(book, delay, without(sends, lost))
+        if beat is None:
+            return None
+        worst = max(worst, beat)
+    return worst
+
+
+def sturdy_by_trying(book, delay, windows, most):
+    """What point 10 says of sturdy, by trying every order and every loss, and how many orders are as soon."""
+    beats = [beat for begin, end in windows for beat in range(begin, end)]
+    found = []
+    for order in itertools.permutations(range(len(book))):
+        numbers = [number for number in order for again in range(most + 1)]
+        sends = list(zip(beats, numbers))
+        if len(sends) == len(numbers):
+            worst = all_done_at_worst(book, delay, sends, most)
+            if worst is not None:
+                found.append((worst, numbers, sends))
+    if not found:
+        return None, 0
+    beat, numbers, sends = min(found)
+    return (beat, sends), [other for other, *rest in found].count(beat)
+
+
+def weak_by_trying(book, delay, sends, most):
+    """What point 11 says of weak, by trying every loss."""
+    for lost in lists_of_lost(len(sends), most):
+        if all_done(book, delay, without(sends, lost)) is None:
+            return lost
+    return None
 
 
 class EveryLoss:

@@ -3,10 +3,27 @@
 import unittest
 
 from faruplink.craft import Craft
+from faruplink.doubt import Ground
 from faruplink.errors import BadBook
+from faruplink.judging import judged
+from faruplink.line import Line
+from faruplink.losses import weak
+from faruplink.plays import played
+from faruplink.soonest import soonest, sturdy
 
 FINE = (3, 7, ())
 EIGHT = (FINE,) * 8
+# All that is handed a book, with what else it is handed; what else can't be is refused behind the book.
+TAKERS = (
+    (Craft,), (Ground, 1), (Line, 1, ()), (judged, 1, (), []),
+    (soonest, 1, ()), (sturdy, 1, (), 0), (weak, 1, [], 0), (played, 1, (), []),
+)
+TAKERS_OF_WRONG_ONES = (
+    (Ground, 0), (Line, 0, 0), (judged, 0, 0, [()]),
+    (soonest, 0, 0), (sturdy, 0, 0, 4), (weak, 0, [()], 4), (played, 0, 0, [()]),
+)
+# These plan for six commands at the most.
+PLANNERS = (soonest, sturdy)
 
 
 def book_with(number, command):
@@ -17,6 +34,9 @@ def book_with(number, command):
 class BooksTaken(unittest.TestCase):
     def assert_taken(self, book):
         self.assertEqual(Craft(book).beat([]), ("none",) * len(book))
+        for taker, *others in TAKERS:
+            if len(book) <= 6 or taker not in PLANNERS:
+                taker(book, *others)
 
     def test_of_one_to_eight_commands(self):
         for many in range(1, 9):
@@ -47,9 +67,10 @@ class BooksTaken(unittest.TestCase):
 
 class BooksRefused(unittest.TestCase):
     def assert_refused(self, book, number):
-        with self.assertRaises(BadBook) as caught:
-            Craft(book)
-        self.assertEqual(caught.exception.number, number)
+        for taker, *others in (*TAKERS, *TAKERS_OF_WRONG_ONES):
+            with self.assertRaises(BadBook) as caught:
+                taker(book, *others)
+            self.assertEqual(caught.exception.number, number)
 
     def assert_command_refused(self, command, numbers=range(8)):
         for number in numbers:

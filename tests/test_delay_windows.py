@@ -3,9 +3,12 @@
 import unittest
 
 from faruplink.doubt import Ground
-from faruplink.errors import BadBook, BadDelay, BadLetters, BadWindows
+from faruplink.errors import BadBook, BadCount, BadDelay, BadLetters, BadStep, BadWindows
 from faruplink.judging import judged
 from faruplink.line import Line
+from faruplink.losses import weak
+from faruplink.plays import played
+from faruplink.soonest import soonest, sturdy
 
 BOOK = ((0, 200, ()),)
 NO_BOOKS = ((), 0, ((3, 2, ()),), BOOK * 9)
@@ -32,6 +35,10 @@ class Delays(unittest.TestCase):
                 self.assertEqual(Ground(BOOK, delay).now(), 0)
                 self.assertEqual(Line(BOOK, delay, ()).now(), 0)
                 self.assertIsNone(judged(BOOK, delay, (), []))
+                self.assertEqual(soonest(BOOK, delay, ((0, 1),)), (delay, [(0, 0)]))
+                self.assertEqual(sturdy(BOOK, delay, ((0, 2),), 1), (delay + 1, [(0, 0), (1, 0)]))
+                self.assertEqual(weak(BOOK, delay, [(0, 0)], 1), [0])
+                self.assertEqual(played(BOOK, delay, (), [])[0], [])
 
     def test_others_are_refused(self):
         for delay in NO_DELAYS:
@@ -39,6 +46,10 @@ class Delays(unittest.TestCase):
                 self.assertRaises(BadDelay, Ground, BOOK, delay)
                 self.assertRaises(BadDelay, Line, BOOK, delay, ())
                 self.assertRaises(BadDelay, judged, BOOK, delay, (), [])
+                self.assertRaises(BadDelay, soonest, BOOK, delay, ())
+                self.assertRaises(BadDelay, sturdy, BOOK, delay, (), 0)
+                self.assertRaises(BadDelay, weak, BOOK, delay, [], 0)
+                self.assertRaises(BadDelay, played, BOOK, delay, (), [])
 
 
 class Windows(unittest.TestCase):
@@ -57,6 +68,12 @@ class Windows(unittest.TestCase):
                 line.beat(1)
         self.assertEqual(told, list(beats))
         self.assertIsNone(judged(BOOK, 1, windows, [("beat",)] * 3))
+        steps = [step for beat in range(200) for step in (("send", 0), ("beat", 1))]
+        answers = played(BOOK, 1, windows, steps)[0][::2]
+        self.assertEqual([beat for beat in range(200) if answers[beat] is None], list(beats))
+        plan = [(beat, 0) for beat in list(beats)[:4]]
+        self.assertEqual(soonest(BOOK, 1, windows), (plan[0][0] + 1, plan[:1]) if plan else None)
+        self.assertEqual(sturdy(BOOK, 1, windows, 3), (plan[3][0] + 1, plan) if len(plan) == 4 else None)
 
     def test_none(self):
         self.assert_open((), [])
@@ -87,30 +104,40 @@ class Windows(unittest.TestCase):
             with self.subTest(windows=windows):
                 self.assertRaises(BadWindows, Line, BOOK, 1, windows)
                 self.assertRaises(BadWindows, judged, BOOK, 1, windows, [])
+                self.assertRaises(BadWindows, soonest, BOOK, 1, windows)
+                self.assertRaises(BadWindows, sturdy, BOOK, 1, windows, 0)
+                self.assertRaises(BadWindows, played, BOOK, 1, windows, [])
 
 
 class WhatIsRefusedFirst(unittest.TestCase):
-    def test_a_book_ahead_of_a_delay_ahead_of_windows_ahead_of_a_log(self):
+    """With what comes behind the windows wrong as well."""
+
+    WITH_WINDOWS = ((Line,), (soonest,), (sturdy, 4), (judged, [()]), (played, [()]))
+
+    def test_a_book_ahead_of_a_delay(self):
         for book in NO_BOOKS:
             for delay in (1, *NO_DELAYS):
                 self.assertRaises(BadBook, Ground, book, delay)
+                self.assertRaises(BadBook, weak, book, delay, [()], 4)
                 for windows in ((), *NO_WINDOWS):
-                    self.assertRaises(BadBook, Line, book, delay, windows)
-                    self.assertRaises(BadBook, judged, book, delay, windows, [()])
-        for delay in NO_DELAYS:
-            for windows in ((), *NO_WINDOWS):
-                self.assertRaises(BadDelay, Line, BOOK, delay, windows)
-                self.assertRaises(BadDelay, judged, BOOK, delay, windows, [()])
-        for windows in NO_WINDOWS:
-            self.assertRaises(BadWindows, judged, BOOK, 1, windows, [()])
-        self.assertRaises(BadLetters, judged, BOOK, 1, (), [()])
+                    for taker, *others in self.WITH_WINDOWS:
+                        self.assertRaises(BadBook, taker, book, delay, windows, *others)
 
-    def test_a_wrong_book_tells_its_number(self):
-        for made, *others in ((Ground, 0), (Line, 0, 0), (judged, 0, 0, [()])):
-            for book, number in (((), 0), ((*BOOK, (3, 2, ())), 1), (BOOK * 9, 8)):
-                with self.assertRaises(BadBook) as caught:
-                    made(book, *others)
-                self.assertEqual(caught.exception.number, number)
+    def test_a_delay_ahead_of_windows(self):
+        for delay in NO_DELAYS:
+            self.assertRaises(BadDelay, weak, BOOK, delay, [()], 4)
+            for windows in ((), *NO_WINDOWS):
+                for taker, *others in self.WITH_WINDOWS:
+                    self.assertRaises(BadDelay, taker, BOOK, delay, windows, *others)
+
+    def test_windows_ahead_of_what_is_handed_in_behind_them(self):
+        for windows in NO_WINDOWS:
+            for taker, *others in self.WITH_WINDOWS:
+                self.assertRaises(BadWindows, taker, BOOK, 1, windows, *others)
+        self.assertRaises(BadLetters, judged, BOOK, 1, (), [()])
+        self.assertRaises(BadStep, played, BOOK, 1, (), [()])
+        self.assertRaises(BadCount, sturdy, BOOK, 1, (), 4)
+        self.assertRaises(BadLetters, weak, BOOK, 1, [()], 4)
 
 
 if __name__ == "__main__":

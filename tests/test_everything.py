@@ -2,14 +2,19 @@
 
 import ast
 import builtins
+import copy
 import pathlib
 import unittest
 
 from faruplink.craft import Craft
 from faruplink.doubt import Ground
-from faruplink.errors import BadBook, BadDelay, BadLetters, BadReport, BadWindows, LinkError, Over
+from faruplink.errors import BadBook, BadCount, BadDelay, BadLetters, BadReport, BadStep, BadText, BadWindows
+from faruplink.errors import LinkError, NoCommand, NoLetter, Over, TooMany
 from faruplink.judging import judged
 from faruplink.line import Line
+from faruplink.losses import weak
+from faruplink.plays import played, read, written
+from faruplink.soonest import soonest, sturdy
 
 PACKAGE = pathlib.Path(__file__).resolve().parent.parent / "faruplink"
 BOOK = ((1, 3, ()), (0, 5, (0,)), (4, 4, ()))
@@ -116,11 +121,12 @@ def all_of_line(line):
 
 
 def spoil(told):
-    """Change all of a list that was told."""
+    """Change all of what was told, as far as it can be."""
     for item in told:
-        if isinstance(item, list):
+        if isinstance(item, (list, tuple)):
             spoil(item)
-    told[:] = ["spoilt", *told, ["spoilt"]]
+    if isinstance(told, list):
+        told[:] = ["spoilt", *told, ["spoilt"]]
 
 
 class Grounds(unittest.TestCase):
@@ -296,6 +302,125 @@ class Judging(unittest.TestCase):
             self.assertRaises(BadLetters, judged, BOOK, 1, ((0, 1),), log)
             self.assertEqual(log, [("send", 0), ("send", 3)])
             self.assertIsNone(judged(BOOK, 1, ((0, 1),), log[:1]))
+
+
+class PlansAndPlays(unittest.TestCase):
+    WINDOWS = ((0, 2), (3, 12))
+    PLANNED = ((1, 9, ()), (0, 9, (0,)), (4, 12, ()))
+    SENDS = [(0, 0), (1, 1), (3, 0), (4, 2), (5, 1)]
+    STEPS = [
+        ("send", 0), ("send", 1), ("call", 2), ("lose", 2), ("beat", 0), ("lose", 7), ("send", 2), ("beat", 1),
+        ("send", 9), ("beat", 0), ("beat", 5), ("send", 2), ("beat", 0), ("beat", 0), ("beat", 0),
+    ]
+    TEXT = "send 0\nbeat 1\nlose 99"
+
+    def asked(self):
+        """All that is told of the same."""
+        told, line = played(BOOK, 1, self.WINDOWS, self.STEPS)
+        return [
+            soonest(self.PLANNED, 2, self.WINDOWS), sturdy(self.PLANNED, 2, self.WINDOWS, 1),
+            weak(self.PLANNED, 2, self.SENDS, 3), weak(BOOK, 2, [], 3),
+            told, list(all_of_line(line)), [written(self.STEPS)], read(self.TEXT), read(""),
+        ]
+
+    def test_the_same_is_told_when_asked_again_though_what_was_told_is_changed(self):
+        plain = copy.deepcopy(self.asked())
+        self.assertNotIn(None, plain)
+        for again in range(3):
+            told = self.asked()
+            self.assertEqual(told, plain)
+            spoil(told)
+
+    def test_lists_that_are_handed_in_are_neither_changed_nor_kept(self):
+        plain = copy.deepcopy(self.asked())
+        sends, steps = list(self.SENDS), list(self.STEPS)
+        lost = weak(self.PLANNED, 2, sends, 3)
+        told, line = played(BOOK, 1, self.WINDOWS, steps)
+        text = written(steps)
+        self.assertEqual((sends, steps), (self.SENDS, self.STEPS))
+        spoil(sends)
+        spoil(steps)
+        self.assertEqual([lost, told, list(all_of_line(line)), [text]], [plain[2], *plain[4:7]])
+
+    def test_what_is_refused_changes_nothing(self):
+        plain = copy.deepcopy(self.asked())
+        for again in range(2):
+            self.assertRaises(TooMany, soonest, ((0, 9, ()),) * 7, 2, self.WINDOWS)
+            self.assertRaises(BadCount, sturdy, self.PLANNED, 2, self.WINDOWS, 4)
+            self.assertRaises(BadLetters, weak, self.PLANNED, 2, [(0, 0), (0, 1)], 3)
+            self.assertRaises(BadStep, played, BOOK, 1, self.WINDOWS, [*self.STEPS, ("beat", 100)])
+            self.assertRaises(BadStep, written, [*self.STEPS, ("beat", 100)])
+            self.assertRaises(BadText, read, self.TEXT + "\n")
+            self.assertEqual(self.asked(), plain)
+
+
+class LinesBesideOneAnother(unittest.TestCase):
+    """Two lines of the same book, one played and one taken step by step, all that is told changed behind."""
+
+    def step(self, line, word, number):
+        try:
+            return getattr(line, word)(number)
+        except LinkError:
+            return "no"
+
+    def test_all_that_is_told_changed_and_asked_again(self):
+        steps = PlansAndPlays.STEPS
+        whole, plain = played(BOOK, 1, PlansAndPlays.WINDOWS, steps)
+        line = Line(BOOK, 1, PlansAndPlays.WINDOWS)
+        for many, (word, number) in enumerate(steps, 1):
+            told, beside = played(BOOK, 1, PlansAndPlays.WINDOWS, steps[:many])
+            answer = self.step(line, word, number)
+            self.assertEqual((told, answer), (whole[:many], whole[many - 1]))
+            self.assertEqual(all_of_line(line), all_of_line(beside))
+            spoil([answer, told])
+            spoil(all_of_line(line))
+            spoil(all_of_line(beside))
+            self.assertEqual(all_of_line(line), all_of_line(beside))
+        self.assertEqual(all_of_line(line), all_of_line(plain))
+
+    def test_one_goes_on_and_the_other_stays(self):
+        steps = PlansAndPlays.STEPS
+        told, one = played(BOOK, 1, PlansAndPlays.WINDOWS, steps)
+        again, other = played(BOOK, 1, PlansAndPlays.WINDOWS, steps)
+        before = copy.deepcopy(all_of_line(one))
+        for word, number in steps:
+            spoil([self.step(other, word, number)])
+            spoil(all_of_line(other))
+            self.assertEqual(all_of_line(one), before)
+        self.assertEqual((told, other.now()), (again, 2 * one.now()))
+
+    def test_a_line_that_was_told_refuses_and_stays(self):
+        line = played(BOOK, 1, PlansAndPlays.WINDOWS, PlansAndPlays.STEPS)[1]
+        before = copy.deepcopy(all_of_line(line))
+        for step, number in ((line.send, 3), (line.call, -1), (line.lose, 9), (line.beat, 2), (line.beat, True)):
+            self.assertRaises(LinkError, step, number)
+            self.assertEqual(all_of_line(line), before)
+
+
+class TrueAndFalseAreNoNumbers(unittest.TestCase):
+    def test_wherever_a_number_is_handed_in(self):
+        one, always = ((0, 9, ()),), ((0, 9),)
+        for wrong in (True, False):
+            line = Line(one * 2, 1, always)
+            line.send(0)
+            line.send(1)
+            ground = Ground(one * 2, 1)
+            for error, asked, *handed in (
+                (BadBook, Craft, ((wrong, 9, ()),)), (BadBook, Craft, ((0, wrong, ()),)),
+                (BadBook, Craft, (*one * 2, (0, 9, (wrong,)))),
+                (BadLetters, Craft(one * 2).beat, [("cmd", wrong)]), (BadLetters, ground.send, [("back", wrong)]),
+                (BadDelay, Ground, one, wrong), (BadDelay, Line, one, wrong, ()), (BadDelay, weak, one, wrong, [], 0),
+                (BadReport, ground.hear, wrong, ("none", "none")),
+                (BadWindows, Line, one, 1, ((wrong, 9),)), (BadWindows, soonest, one, 1, ((0, wrong),)),
+                (NoCommand, line.send, wrong), (NoCommand, line.call, wrong), (NoLetter, line.lose, wrong),
+                (BadCount, line.beat, wrong), (BadLetters, judged, one * 2, 1, always, [("send", wrong)]),
+                (BadLetters, judged, one, 1, always, [("heard", wrong, ("none",))]),
+                (BadCount, sturdy, one, 1, always, wrong), (BadCount, weak, one, 1, [], wrong),
+                (BadLetters, weak, one, 1, [(wrong, 0)], 0), (BadLetters, weak, one * 2, 1, [(0, wrong)], 0),
+                (BadStep, played, one, 1, always, [("beat", wrong)]), (BadStep, written, [("send", wrong)]),
+            ):
+                with self.subTest(asked=asked, handed=handed):
+                    self.assertRaises(error, asked, *handed)
 
 
 class NoClockChanceOrFiles(unittest.TestCase):
